@@ -1,0 +1,1 @@
+"""Straysign: words made longer, so that wrong signs in them are mended."""
