@@ -15,6 +15,16 @@ def signs_along(prime, curve, length):
     return [sign_at(prime, curve, place) for place in range(length)]
 
 
+def powers_of(prime, place, count):
+    powers = []
+    # The power nought counts as one, at the place nought too.
+    following = 1
+    while len(powers) < count:
+        powers.append(following)
+        following = multiplied(prime, following, place)
+    return powers
+
+
 def sum_of_curves(prime, one, two):
     return [added(prime, left, right) for left, right in zip(one, two)]
 
@@ -42,3 +52,16 @@ def curve_through(prime, places, signs):
         curve = sum_of_curves(prime, curve + [0], scaled(prime, noughts, share))
         noughts = with_nought_at(prime, noughts, place)
     return curve
+
+
+def divided(prime, over, under):
+    # The last number of what divides must be one; so many times as the greatest power left tells, it takes that away.
+    left = list(over)
+    shares = []
+    while len(left) >= len(under):
+        share = left[-1]
+        shares.append(share)
+        start = len(left) - len(under)
+        top = [lessened(prime, number, multiplied(prime, share, down)) for number, down in zip(left[start:], under)]
+        left = left[:start] + top[:-1]
+    return list(reversed(shares))

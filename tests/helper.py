@@ -50,6 +50,36 @@ def some_word(prime, size, seed):
     return signs
 
 
+def all_made(prime, size, length):
+    return [[plain_sign_at(prime, numbers, place) for place in range(length)] for numbers in plain_curves(prime, size)]
+
+
+def room_of(signs, size):
+    return (sum(sign is not None for sign in signs) - size) // 2
+
+
+def wrong_places(signs, word):
+    return [place for place, sign in enumerate(signs) if sign is not None and sign != word[place]]
+
+
+def spoiled(prime, signs, places, seed=0):
+    """Another sign at each of the places; a known one, whichever the seed is."""
+    answer = list(signs)
+    for place in places:
+        answer[place] = (answer[place] + 1 + (seed + place * place) % (prime - 1)) % prime
+    return answer
+
+
+def with_gaps(signs, places):
+    return [None if place in places else sign for place, sign in enumerate(signs)]
+
+
+def some_places(count, among, seed):
+    """So many different places below a number, the same on each run; rising."""
+    order = sorted(zip(some_word(2**20, among, seed), range(among)))
+    return sorted(place for _, place in order[:count])
+
+
 def refusal(call, *arguments):
     """The class of the StrayError that the call refuses with, or None where it refuses nothing."""
     try:

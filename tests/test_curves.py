@@ -2,7 +2,7 @@ import unittest
 from itertools import combinations, permutations, product
 
 from helper import plain_curves, plain_sign_at, some_word
-from straysign.curves import curve_through, sign_at, signs_along
+from straysign.curves import curve_through, divided, powers_of, sign_at, signs_along
 
 
 class AtAPlace(unittest.TestCase):
@@ -56,3 +56,31 @@ class ThroughSigns(unittest.TestCase):
         places = [996, 0, 500, 3, 17, 18, 19, 250, 700, 701, 995, 42, 64, 128, 256, 512]
         signs = [plain_sign_at(997, numbers, place) for place in places]
         self.assertEqual(curve_through(997, places, signs), numbers)
+
+
+class Powers(unittest.TestCase):
+    def test_from_the_power_nought_on(self):
+        for prime in (2, 3, 7, 997):
+            for place in range(min(prime, 10)):
+                for count in range(6):
+                    self.assertEqual(powers_of(prime, place, count), [place**power % prime for power in range(count)])
+
+
+class Divided(unittest.TestCase):
+    def test_by_hand(self):
+        self.assertEqual(divided(7, [6, 5, 1], [2, 1]), [3, 1])
+        self.assertEqual(divided(7, [6, 5, 1, 0], [2, 1]), [3, 1, 0])
+        self.assertEqual(divided(7, [4, 2], [1]), [4, 2])
+        self.assertEqual(divided(7, [0, 0, 0], [5, 1]), [0, 0])
+
+    def test_a_product_gives_back_the_other_factor(self):
+        for prime, size, room in ((2, 1, 1), (3, 2, 1), (5, 3, 2), (997, 16, 11)):
+            for seed in range(10):
+                factor, under = some_word(prime, size, seed), some_word(prime, room, seed + 99) + [1]
+                over = [0] * (size + room)
+                for left, one in enumerate(factor):
+                    for right, two in enumerate(under):
+                        over[left + right] = (over[left + right] + one * two) % prime
+                handed = list(over)
+                self.assertEqual(divided(prime, handed, under), factor)
+                self.assertEqual(handed, over)

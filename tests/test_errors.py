@@ -2,6 +2,9 @@ import unittest
 
 from straysign import errors
 from straysign.making import filled, is_made, made
+from straysign.mending import mended, read
+from straysign.notes import line_read
+from straysign.sheets import dealt, laid, taken_up
 
 NAMES = ["NotPrime", "BadSign", "BadLength", "NotMended", "NoLine"]
 
@@ -19,7 +22,9 @@ class Errors(unittest.TestCase):
                     self.assertFalse(issubclass(own, getattr(errors, other)), (name, other))
 
     def test_a_refusal_can_be_taken_as_value_error(self):
-        calls = [(made, (4, [1], 1)), (is_made, (7, [7], 1)), (filled, (7, [1], 2))]
+        calls = [(made, (4, [1], 1)), (is_made, (7, [7], 1)), (filled, (7, [1], 2)), (mended, (7, [None], 1)),
+                 (mended, (7, [1, 2], 1)), (read, (7, [1, 2], 1)), (laid, (7, [[1, 2]], 1)), (dealt, ([1], 0)),
+                 (taken_up, (7, [1, 2], 1, 1)), (taken_up, (7, [1, 2], 3, 1)), (line_read, ("01",))]
         for call, arguments in calls:
             for taken in (errors.StrayError, ValueError):
                 with self.assertRaises(taken):

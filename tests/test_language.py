@@ -88,6 +88,7 @@ class Form(unittest.TestCase):
                 self.assertIn(type(node).__name__, NODES, where)
                 if isinstance(node, ast.Constant):
                     self.assertIsInstance(node.value, (int, str, type(None)), where)
+                    self.assertNotIn("%", str(node.value), where)
                 if isinstance(node, (ast.For, ast.While)):
                     self.assertEqual(node.orelse, [], where)
                 if isinstance(node, ast.Assign):

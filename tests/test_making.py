@@ -1,17 +1,13 @@
 import unittest
 from itertools import combinations
 
-from helper import plain_curves, plain_filled, plain_made, plain_sign_at, some_word, words
+from helper import all_made, plain_filled, plain_made, some_word, spoiled, words
 from straysign.making import apart, filled, is_made, made
 
 # A prime, a size and a length each: small and greater primes, the length the size and the length the prime.
 SHAPES = [(2, 1, 1), (2, 1, 2), (2, 2, 2), (3, 1, 3), (3, 2, 2), (3, 2, 3), (3, 3, 3), (5, 2, 5), (7, 3, 7),
           (13, 4, 13), (29, 6, 29), (31, 16, 31), (101, 16, 39), (257, 1, 24), (997, 16, 16), (997, 16, 39),
           (997, 2, 25)]
-
-
-def spoiled(signs, place, prime):
-    return signs[:place] + [(signs[place] + 1) % prime] + signs[place + 1:]
 
 
 class Made(unittest.TestCase):
@@ -40,8 +36,7 @@ class Made(unittest.TestCase):
 
     def test_by_the_one_curve_that_fits(self):
         for prime, size in ((2, 1), (2, 2), (3, 2), (5, 2), (5, 3)):
-            rows = [[plain_sign_at(prime, numbers, place) for place in range(prime)]
-                    for numbers in plain_curves(prime, size)]
+            rows = all_made(prime, size, prime)
             for word in words(prime, size):
                 fitting = [row for row in rows if row[:size] == word]
                 for length in range(size, prime + 1):
@@ -75,14 +70,13 @@ class IsMade(unittest.TestCase):
             if length > size:
                 signs = made(prime, some_word(prime, size, 1), length)
                 for place in range(length):
-                    self.assertIs(is_made(prime, spoiled(signs, place, prime), size), False)
+                    self.assertIs(is_made(prime, spoiled(prime, signs, [place]), size), False)
 
     def test_every_list_of_signs_over_some_small_primes(self):
         for prime, size, length in ((2, 1, 2), (3, 1, 3), (3, 2, 3), (5, 2, 4), (5, 3, 4)):
-            all_made = [[plain_sign_at(prime, numbers, place) for place in range(length)]
-                        for numbers in plain_curves(prime, size)]
+            rows = all_made(prime, size, length)
             for signs in words(prime, length):
-                self.assertIs(is_made(prime, signs, size), signs in all_made)
+                self.assertIs(is_made(prime, signs, size), signs in rows)
 
     def test_the_size_is_what_counts(self):
         squares = made(11, [0, 1, 4], 8)
